@@ -1,5 +1,8 @@
 """Values and their kinds, shapes, and which values fit them."""
 
+# In this order a tree's node names what comes after each of them.
+KINDS = ("number", "text", "pair")
+
 
 def kind_of(value):
     if isinstance(value, int):

@@ -34,6 +34,13 @@ OWN_NAMES = """
     StopIteration
 """.split()
 
+# L25; the package's classes have no methods of their own.
+METHODS = """
+    append clear copy count endswith extend find get index insert isalnum isalpha isdigit islower isspace isupper
+    items join keys ljust lower lstrip partition pop remove replace reverse rfind rjust rpartition rsplit rstrip
+    setdefault split splitlines startswith strip update upper values zfill bit_length
+""".split()
+
 
 def bound_names(tree):
     names = set()
@@ -88,6 +95,34 @@ class TheLanguage(unittest.TestCase):
                     self.assertEqual(node.orelse, [], (name, node.lineno))
                 if isinstance(node, ast.Try):
                     self.assertEqual(node.finalbody, [], (name, node.lineno))
+
+    def test_the_narrower_rules(self):
+        for name, tree in self.each_tree():
+            for node in ast.walk(tree):
+                place = (name, getattr(node, "lineno", 0))
+                if isinstance(node, ast.Attribute):
+                    self.assertIn(node.attr, METHODS, place)
+                if isinstance(node, ast.Compare) and isinstance(node.ops[0], (ast.Is, ast.IsNot)):
+                    self.assertIsInstance(node.comparators[0], ast.Constant, place)
+                if isinstance(node, ast.ListComp):
+                    self.assertEqual(len(node.generators), 1, place)
+                    self.assertLessEqual(len(node.generators[0].ifs), 1, place)
+                if isinstance(node, ast.Constant):
+                    self.assertNotIsInstance(node.value, (float, bytes), place)
+                    self.assertNotIn("%", str(node.value), place)
+                if isinstance(node, ast.Call) and isinstance(node.func, ast.Name):
+                    self.assertNotIn(node.func.id, ("set", "frozenset"), place)
+
+    def test_no_two_files_draw_from_one_another(self):
+        drawn = {}
+        for path in FILES:
+            tree = ast.parse(path.read_text(encoding="ascii"))
+            drawn[path.stem] = {node.module.split(".")[-1] for node in tree.body if isinstance(node, ast.ImportFrom)}
+        while drawn:
+            first = [name for name in drawn if not drawn[name] & set(drawn)]
+            self.assertNotEqual(first, [], drawn)
+            for name in first:
+                drawn.pop(name)
 
     def test_imports_are_the_packages_own(self):
         for name, tree in self.each_tree():

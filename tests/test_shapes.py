@@ -2,52 +2,16 @@ import copy
 import itertools
 import unittest
 
+from helping import ANY, LONG, NUMBER, PAIR, SIDES_OF_DEPTH, SIGNS, TEXT, as_value, nested, pair, same
 from shapetree.shapes import fits
 
-ANY = ("any",)
-NUMBER = ("kind", "number")
-TEXT = ("kind", "text")
-PAIR = ("kind", "pair")
-
-LONG = 123456789012345678901234567890
 NUMBERS = [0, 1, -1, 7, -12, LONG, -LONG, LONG + 1, 10 ** 32 - 1, 1 - 10 ** 32, 10 ** 40, -(10 ** 40)]
-SIGNS = "".join(chr(code) for code in range(32, 127) if chr(code) != "%")
 TEXTS = ["", " ", "  ", "a", "A", "ab", "a ", " a", "0", "-1", str(LONG), "any", "number", "pair", SIGNS, "x" * 500]
 PAIRS = [
     (0, 0), (0, ""), ("", 0), ("", ""), (1, (2, 3)), ((1, 2), 3), ((1, "a"), ("b", 2)),
     ("kind", "pair"), ("same", 0), ("any", ("any", "any")), (LONG, -LONG), (SIGNS, SIGNS),
 ]
 VALUES = NUMBERS + TEXTS + PAIRS
-
-
-def pair(one, two):
-    return ("pair", one, two)
-
-
-def same(atom):
-    return ("same", atom)
-
-
-def nested(sides, inner, beside, join):
-    """Holds `inner` at the place `sides`, with `beside(k)` on the other side at each step."""
-    held = inner
-    for step in reversed(range(len(sides))):
-        other = beside(step)
-        held = join(held, other) if sides[step] == 0 else join(other, held)
-    return held
-
-
-def as_value(one, two):
-    return (one, two)
-
-
-# On the first side, on the second, on both in turn, and on the first to the half and then on the second.
-SIDES_OF_DEPTH = [
-    lambda depth: [0] * depth,
-    lambda depth: [1] * depth,
-    lambda depth: [step % 2 for step in range(depth)],
-    lambda depth: [0 if step < depth // 2 else 1 for step in range(depth)],
-]
 
 
 class FitsCase(unittest.TestCase):
