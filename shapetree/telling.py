@@ -101,7 +101,8 @@ def words_by_weight(rows, question):
 
 # A tuple of two: needs that lead past all the rows, or None; and then the numbers of some rows that together let
 # nothing past, as a dict of True. Where none of these rows needs the answer, no other answer leads past them.
-# Each step that calls itself has fewer rows, so the calls within calls are no more than the rows.
+# The calls within calls are no more than the rows, since each leaves a row behind: a kind that no row needs comes
+# first, and where it leads to no way past, no other kind is tried.
 def search_past(rows):
     if not rows:
         return ({}, {})

@@ -13,6 +13,22 @@ from shapetree.trees import tree_of
 
 THREE_ROWS = [PAIR, pair(same(1), ANY), NUMBER]
 
+# What is no chain of four.
+NO_CHAIN = [chain([ANY] * count + [kind]) for count in range(3) for kind in (NUMBER, TEXT)]
+
+
+def rows_but_for(chance, spared):
+    """Rows that lap over one another, fit by every value but the chains of these four kinds."""
+    left = [kinds for kinds in itertools.product(KINDS, repeat=4) if kinds != spared]
+    rows = []
+    while left:
+        kinds = chance.choice(left)
+        asked = chance.sample(range(4), chance.choice([2, 2, 3]))
+        if any(kinds[column] != spared[column] for column in asked):
+            rows.append(columns(4, {column: kinds[column] for column in asked}))
+            left = [other for other in left if any(other[column] != kinds[column] for column in asked)]
+    return rows
+
 
 def others_by_values(rows, values):
     """For each row None where one of the values leads to it, else the numbers of the rows to which its values lead."""
@@ -150,6 +166,28 @@ class ManyRows(TellingCase):
                 self.check_all(fewer, [None] * 42, True)
                 self.assertTrue(fits(rows[left_out], unfit(fewer)[0]))
                 self.check_all(fewer + [ANY], [None] * 43, False)
+
+    def test_one_way_past_rows_that_lap_over_one_another(self):
+        for number in range(150):
+            chance = random.Random(number)
+            spared = tuple(chance.choice(KINDS) for column in range(4))
+            rows = NO_CHAIN + rows_but_for(chance, spared)
+            self.check_unfit(rows, unfit(rows), True)
+            self.assertTrue(fits(chain(list(spared)), unfit(rows)[0]))
+            self.assertEqual(told(rows + [ANY])[-1][0], "come")
+            self.assertEqual(unfit(rows + [chain(list(spared))]), [])
+            covered = rows + [chain(list(spared)), ANY]
+            numbers = [entry[0] for entry in told(covered)[-1][1]]
+            self.assertEqual(numbers, [row for row, one in enumerate(told(covered)) if one[0] == "come"])
+
+    def test_rows_beside_those_that_let_nothing_past(self):
+        # The heavier rows ask for other places, and by themselves would let many values past.
+        cover = [columns(11, {0: one, 1: two, 2: three}) for one in KINDS for two in KINDS for three in KINDS]
+        beside = [columns(11, {number: KINDS[number % 3], number + 1: KINDS[turn]})
+                  for number in range(3, 9) for turn in range(2)]
+        rows = cover[:13] + beside + cover[13:] + [chain([ANY] * 11)]
+        self.check_all(rows, [None] * 39 + [list(range(39))], True)
+        self.check_all(rows + [ANY], [None] * 39 + [list(range(39)), None], False)
 
     def test_rows_with_a_tree_beyond_all_bounds(self):
         for count in (43, 50):

@@ -11,6 +11,9 @@ from shapetree.trees import led, tree_of
 
 THREE_ROWS = [PAIR, pair(same(1), ANY), NUMBER]
 
+BEFORE_NOUGHT = pair(ANY, same(0))
+AFTER_NOUGHT = pair(same(0), ANY)
+
 
 class TreesCase(RowsCase):
     def check_values(self, tree, rows, values):
@@ -188,6 +191,34 @@ class ManyRows(TreesCase):
         first = columns(31, {5: NUMBER, 9: NUMBER})
         others = [columns(31, {number: KINDS[number % 3], 30: same(number)}) for number in range(30)]
         self.assertLess(len(self.check_rows([first] + others)), 4000)
+        # Asking for the first row's needs alone makes a tree of some 5000 nodes.
+        rows = [columns(8, given) for given in (
+            {2: BEFORE_NOUGHT, 4: same(1), 5: TEXT},
+            {0: TEXT, 2: BEFORE_NOUGHT, 4: same(0)},
+            {0: BEFORE_NOUGHT, 1: AFTER_NOUGHT, 3: BEFORE_NOUGHT, 5: BEFORE_NOUGHT, 6: BEFORE_NOUGHT, 7: AFTER_NOUGHT},
+            {0: NUMBER, 2: BEFORE_NOUGHT, 4: same(1)},
+            {0: AFTER_NOUGHT, 3: AFTER_NOUGHT, 5: AFTER_NOUGHT, 6: AFTER_NOUGHT, 7: BEFORE_NOUGHT})]
+        self.assertLess(len(self.check_rows(rows)), 1000)
+
+    def test_trees_stay_small_where_the_leading_rows_count(self):
+        # Asking for what most rows need, or in order, makes trees of more than 3000 nodes.
+        rows = [columns(8, given) for given in (
+            {0: BEFORE_NOUGHT, 1: AFTER_NOUGHT, 3: NUMBER, 6: TEXT},
+            {0: same(1), 1: NUMBER, 3: TEXT},
+            {0: same(0), 1: TEXT},
+            {0: same(1), 1: same(0), 2: same(1), 3: TEXT, 4: same("a"), 6: PAIR},
+            {1: BEFORE_NOUGHT, 2: AFTER_NOUGHT, 4: AFTER_NOUGHT, 6: same(1), 7: AFTER_NOUGHT},
+            {3: BEFORE_NOUGHT, 5: same("a")},
+            {0: BEFORE_NOUGHT, 1: AFTER_NOUGHT, 4: NUMBER, 5: PAIR},
+            {0: same(0), 3: same("a"), 5: PAIR, 6: PAIR})]
+        self.assertLess(len(self.check_rows(rows)), 1000)
+
+    def test_trees_stay_small_where_many_rows_are_never_come_to(self):
+        chance = random.Random(5)
+        leading = [pair(pair(ANY, kind), ANY) for kind in KINDS] + [pair(NUMBER, ANY), pair(TEXT, ANY)]
+        others = [pair(ANY, columns(8, {column: chance.choice(KINDS) for column in chance.sample(range(8), 3)}))
+                  for row in range(38)]
+        self.assertLess(len(self.check_rows(leading + others)), 20)
 
 
 class DeepRows(TreesCase):
